@@ -9,3 +9,15 @@ class Job:
         self.keep = 0
         self.fleet = 1
         self.ways = []
+
+
+# What would be, with another number, is asked of a copy: looking leaves the job itself alone.
+def copy_of(job):
+    other = Job()
+    other.begun = job.begun
+    other.fill = job.fill
+    other.lay = job.lay
+    other.keep = job.keep
+    other.fleet = job.fleet
+    other.ways = list(job.ways)
+    return other

@@ -1,7 +1,9 @@
 """The interface: a list of calls in, a list of their answers out."""
 
 from pavedloads.job import Job
-from pavedloads.looking import can, latest, soonest, start, why
+from pavedloads.limits import fewest, leastkeep, leastlay, mostfill, spare
+from pavedloads.listing import drives, state, tour
+from pavedloads.looking import ages, can, ends, ifstart, latest, soonest, start, tried, waits, why
 from pavedloads.refusals import NOT_BEGUN
 from pavedloads.telling import begin, drive, filling, keeping, laying, less, load, lorries
 
@@ -18,15 +20,21 @@ WHY = 9
 START = 10
 SOONEST = 11
 LATEST = 12
+AGES = 13
+WAITS = 14
+IFSTART = 15
+ENDS = 16
 TRIED = 17
+FEWEST = 18
+LEASTLAY = 19
+LEASTKEEP = 20
+MOSTFILL = 21
+SPARE = 22
+TOUR = 23
+DRIVES = 24
 
-# How many whole numbers each call takes, by its number. All calls stand here, also those that are
-# not built yet: before a begin that answers 0 they are to be read, too.
+# How many whole numbers each call takes, by its number; the row of a tried stands behind its.
 TAKES = (3, 1, 2, 0, 1, 1, 1, 1, 0, 0, 0, 1, 1, 1, 1, 1, 1, 1, 0, 0, 0, 0, 1, 1, 0, 0)
-
-
-class NotBuilt(Exception):
-    pass
 
 
 def call_end(calls, at):
@@ -65,7 +73,36 @@ def looking_answer(job, call, told):
         return soonest(job, told[0])
     if call == LATEST:
         return latest(job, told[0])
-    raise NotBuilt(f"call {call}")
+    if call == AGES:
+        return ages(job, told[0])
+    if call == WAITS:
+        return waits(job, told[0])
+    if call == IFSTART:
+        return ifstart(job, told[0])
+    if call == ENDS:
+        return ends(job, told[0])
+    # told[1] is how many numbers the row has.
+    return tried(job, told[0], told[2:])
+
+
+def limits_answer(job, call, told):
+    if call == FEWEST:
+        return fewest(job)
+    if call == LEASTLAY:
+        return leastlay(job)
+    if call == LEASTKEEP:
+        return leastkeep(job)
+    if call == MOSTFILL:
+        return mostfill(job)
+    return spare(job, told[0])
+
+
+def listing_answer(job, call, told):
+    if call == TOUR:
+        return tour(job, told[0])
+    if call == DRIVES:
+        return drives(job)
+    return state(job)
 
 
 def answer(job, call, told):
@@ -73,7 +110,11 @@ def answer(job, call, told):
         return [NOT_BEGUN]
     if call <= KEEPING:
         return telling_answer(job, call, told)
-    return looking_answer(job, call, told)
+    if call <= TRIED:
+        return looking_answer(job, call, told)
+    if call <= SPARE:
+        return limits_answer(job, call, told)
+    return listing_answer(job, call, told)
 
 
 def answers(calls):

@@ -29,8 +29,25 @@ def first_why_not(job):
     return []
 
 
+# How long ahead of being begun load k may be filled, at the most, beside the load filled ahead of it
+# (that one so long ahead of its own). It doesn't hang on the start, as long as minute 0 is far enough back.
+def most_ahead(job, k, before):
+    ahead = job.keep
+    if k > 0:
+        ahead = min(ahead, before + job.lay - job.fill)
+    if k < job.fleet:
+        return ahead
+    return min(ahead, (job.fleet - 1) * job.lay - job.ways[k - job.fleet] - job.fill)
+
+
+# The two loads that tell why not say the same, but this is asked hundreds of times in a row, and pairs are many.
 def can_be(job):
-    return len(first_why_not(job)) == 0
+    ahead = 0
+    for k, way in enumerate(job.ways):
+        ahead = most_ahead(job, k, ahead)
+        if ahead < way:
+            return False
+    return True
 
 
 # No start is sooner than the plant allows that fills from minute 0 on without a rest.
@@ -72,6 +89,14 @@ def filled_soonest(job, paver_start):
     return filled
 
 
+# How old each load is when it's begun, filled as soon as may be.
+def ages_soonest(job, paver_start):
+    return [
+        begun_at(job, paver_start, k) - filled
+        for k, filled in enumerate(filled_soonest(job, paver_start))
+    ]
+
+
 def filled_latest(job, paver_start):
     backward = []
     number = len(job.ways)
@@ -82,3 +107,14 @@ def filled_latest(job, paver_start):
         backward.append(filled)
         next_filling = filled - job.fill
     return backward[::-1]
+
+
+def is_plan(job, paver_start, filled):
+    plant_free = 0
+    for k, way in enumerate(job.ways):
+        if filled[k] < max(plant_free + job.fill, not_before(job, paver_start, k)):
+            return False
+        if filled[k] + way > begun_at(job, paver_start, k):
+            return False
+        plant_free = filled[k]
+    return True

@@ -6,12 +6,18 @@ GREATEST = 4294967295
 
 NUMBERS = {
     "begin": 0, "load": 1, "drive": 2, "less": 3, "lorries": 4, "filling": 5, "laying": 6, "keeping": 7,
-    "can": 8, "why": 9, "start": 10, "soonest": 11, "latest": 12,
+    "can": 8, "why": 9, "start": 10, "soonest": 11, "latest": 12, "ages": 13, "waits": 14, "ifstart": 15,
+    "ends": 16, "tried": 17, "fewest": 18, "leastlay": 19, "leastkeep": 20, "mostfill": 21, "spare": 22,
+    "tour": 23, "drives": 24, "state": 25,
 }
 
 
 def call(name, *told):
-    return [NUMBERS[name], *told]
+    """A row is told as a list; how many numbers it has is set before it."""
+    numbers = [NUMBERS[name]]
+    for one in told:
+        numbers += [len(one), *one] if isinstance(one, list) else [one]
+    return numbers
 
 
 def loads(ways):
@@ -51,8 +57,10 @@ def ask(calls, *name_and_told):
     return last([*calls, call(*name_and_told)])
 
 
-# Every one of these answers what was there before it, so together they tell the whole object.
+# State and drives tell the whole object; the calls behind them answer what was there before each,
+# so that the object is told a second time without these two.
 LOOK = [
+    call("state"), call("drives"),
     call("can"), call("why"), call("start"), call("soonest", 5000), call("latest", 5000),
     call("lorries", 1), call("filling", 1), call("laying", 1), call("keeping", 0),
     *[call("drive", k, 0) for k in range(21)],
@@ -99,6 +107,27 @@ def all_plans(fill, lay, keep, fleet, ways, start):
                     longer.append([*plan, minute])
         plans = longer
     return plans
+
+
+def first_plan(fill, lay, keep, fleet, ways, start):
+    """The plan with that start in which each load is filled at the first minute that fits; None without a plan.
+
+    A load that is filled sooner holds back none behind it, so no later minute of it needs to be tried."""
+    filled = []
+    for k in range(len(ways)):
+        begun = start + k * lay
+        for minute in range(max(0, begun - keep), begun + 1):
+            if fits(fill, lay, keep, fleet, ways, start, [*filled, minute], k):
+                filled.append(minute)
+                break
+        else:
+            return None
+    return filled
+
+
+def plan_there_is(fill, lay, keep, fleet, ways):
+    """A plan that is moved to later as a whole is a plan: if there's one, there's one with this start."""
+    return first_plan(fill, lay, keep, fleet, ways, 5000) is not None
 
 
 def minutes_of_plans(fill, lay, keep, fleet, ways, start):

@@ -4,7 +4,7 @@ import unittest
 
 import pavedloads.loads
 from pavedloads.loads import answers
-from tests.helper import GREATEST, ask, call, job, last, look, loads, run
+from tests.helper import GREATEST, ask, call, job, last, look, loads, run, split
 
 # Every call but begin, with numbers that are no refusal for it.
 OTHERS = [
@@ -22,6 +22,39 @@ class TheLists(unittest.TestCase):
             [1, 0, 1, 1, 1, 0, 1, 1, 1, 1, 1, -17, 1, 15, 3, 2, 5, 10, 3, 2, 10, 22, 1, 1, 1, -22],
         )
 
+    def test_counts_of_the_calls_from_ages_on(self):
+        calls = [
+            0, 5, 25, 30, 4, 2, 1, 10, 1, 10, 1, 10,
+            13, 15, 14, 15, 15, 15, 16, 15, 17, 15, 3, 5, 10, 55, 18, 19, 20, 21, 22, 1, 23, 0, 24, 25,
+        ]
+        self.assertEqual(answers(calls)[10:], [
+            4, 3, 10, 30, 10, 4, 3, 0, 20, 0, 1, 1, 1, 90, 1, 1, 1, 2, 1, 25, 1, 10, 1, 5, 1, 20, 3, 2, 0, 2,
+            4, 3, 10, 10, 10, 6, 0, 5, 25, 30, 2, 3,
+        ])
+
+    def test_counts_of_their_refusals(self):
+        calls = [
+            0, 5, 25, 9, 1, 10, 13, 15, 14, 15, 16, 15, 13, 5001, 14, 5001, 15, 5001, 16, 5001, 17, 5001, 1, 5,
+            17, 15, 0, 18, 19, 21, 22, 0, 22, 1, 23, 1,
+        ]
+        self.assertEqual(answers(calls)[4:], [
+            1, -33, 1, -33, 1, -33, 1, -22, 1, -22, 1, -22, 1, -22, 1, -22,
+            1, -22, 1, -33, 1, -33, 1, -33, 1, -33, 1, -2, 1, -2,
+        ])
+
+    def test_a_row_of_any_length_is_read_to_its_end(self):
+        for length in (0, 1, 2, 3, 20, 21, 28999, 29000):
+            for begun, answer in (([], -11), ([0, 5, 25, 30], -22 if length else 1)):
+                with self.subTest(length=length, begun=begun):
+                    calls = [*begun, 17, 40, length, *[25] * length, 25, 17, 40, 1, 24, 24]
+                    given = answers(calls)[2 if begun else 0:]
+                    rest = [6, 0, 5, 25, 30, 1, 0, 1, -22, 1, 0] if begun else [1, -11] * 3
+                    self.assertEqual(given, [1, answer, *rest])
+
+    def test_a_row_whose_numbers_look_like_calls(self):
+        calls = [0, 5, 25, 30, 1, 10, 17, 20, 1, 10, 17, 20, 2, 3, 3, 17, 20, 1, 0, 24]
+        self.assertEqual(answers(calls), [1, 0, 1, 0, 1, 1, 1, -22, 1, 0, 2, 1, 10])
+
     def test_why_answers_three_numbers(self):
         self.assertEqual(answers([0, 5, 10, 0, 1, 1, 9]), [1, 0, 1, 0, 3, 0, 0, 0])
 
@@ -29,7 +62,10 @@ class TheLists(unittest.TestCase):
         self.assertIs(pavedloads.loads.answers, answers)
 
     def test_the_list_handed_in_is_as_it_was(self):
-        calls = [0, 5, 10, 30, 1, 10, 2, 0, 11, 4, 2, 11, 50, 12, 50, 3, 9, 4, 0, 7, 400]
+        calls = [
+            0, 5, 10, 30, 1, 10, 2, 0, 11, 4, 2, 11, 50, 12, 50, 13, 50, 14, 50, 15, 50, 16, 50, 17, 50, 1, 39,
+            18, 19, 20, 21, 22, 0, 23, 0, 24, 25, 17, 50, 3, 1, 2, 3, 3, 9, 4, 0, 7, 400,
+        ]
         before = list(calls)
         answers(calls)
         self.assertEqual(calls, before)
@@ -42,13 +78,29 @@ class TheLists(unittest.TestCase):
             __setitem__ = __delitem__ = __iadd__ = __imul__ = refuse
             append = extend = insert = pop = remove = clear = sort = reverse = refuse
 
-        calls = OnlyRead([0, 5, 10, 30, 1, 10, 2, 0, 11, 4, 2, 11, 50, 12, 50, 3, 9])
+        calls = OnlyRead([
+            0, 5, 10, 30, 1, 10, 2, 0, 11, 4, 2, 11, 50, 12, 50, 13, 50, 14, 50, 15, 50, 16, 50, 17, 50, 1, 39,
+            18, 19, 20, 21, 22, 0, 23, 0, 24, 25, 3, 9,
+        ])
         self.assertEqual(answers(calls), answers(list(calls)))
 
     def test_all_is_plain_whole_numbers(self):
-        given = answers([0, 5, 10, 30, 1, 10, 8, 9, 10, 11, 50, 12, 50, 7, 0, 8, 9, 10])
+        looks = [
+            8, 9, 10, 11, 50, 12, 50, 13, 50, 14, 50, 15, 50, 15, 0, 16, 50, 17, 50, 1, 39, 17, 50, 1, 0, 17, 50, 0,
+            18, 19, 20, 21, 22, 0, 22, 1, 23, 0, 23, 1, 24, 25,
+        ]
+        given = answers([0, 5, 10, 30, 1, 10, *looks, 7, 0, *looks, 3, *looks])
         self.assertIs(type(given), list)
         self.assertEqual({type(number) for number in given}, {int})
+
+    def test_no_number_but_a_refusal_is_below_0(self):
+        looks = [
+            8, 9, 10, 11, 50, 12, 50, 13, 50, 14, 50, 15, 50, 16, 50, 17, 50, 1, 39, 18, 19, 20, 21, 22, 0, 23, 0, 24, 25,
+        ]
+        for begun in ([0, 5, 10, 30], [0, 60, 1, 300], [0, 1, 60, 0]):
+            for one in split(answers([*begun, 1, 10, *looks, 1, 0, *looks, 3, 3, *looks])):
+                self.assertTrue(one[0] >= 0 or one in ([-2], [-17], [-22], [-33]), one)
+                self.assertGreaterEqual(min([0, *one[1:]]), 0, one)
 
     def test_nothing_is_kept_from_one_time_to_the_next(self):
         answers([0, 5, 10, 30, 1, 10])
@@ -85,7 +137,11 @@ class NotBegun(unittest.TestCase):
                     self.assertEqual(answers([*begin, *one]), [1, -22, 1, -11])
 
     def test_it_is_told_ahead_of_every_other_refusal(self):
-        for one in ([1, 121], [2, 0, 121], [4, 0], [5, 0], [6, 61], [7, 301], [11, 5001], [12, GREATEST]):
+        for one in (
+            [1, 121], [2, 0, 121], [4, 0], [5, 0], [6, 61], [7, 301], [11, 5001], [12, GREATEST], [13, 5001],
+            [14, 5001], [15, GREATEST], [16, 5001], [17, 5001, 0], [17, 5000, 1, 65535], [22, GREATEST],
+            [23, GREATEST],
+        ):
             with self.subTest(one=one):
                 self.assertEqual(answers(one), [1, -11])
 

@@ -101,6 +101,30 @@ class Language(unittest.TestCase):
         for name, node in walk(ast.Name):
             self.assertIn(node.id, own | BUILTINS, (name, node.lineno))
 
+    def test_parameters_and_locals_are_not_called_like_imports_classes_or_functions(self):
+        for file in FILES:
+            tree = ast.parse(file.read_text(encoding="utf-8"))
+            top = [node for node in tree.body if isinstance(node, (ast.FunctionDef, ast.ClassDef))]
+            names = {node.name for node in top}
+            names |= {one.name for node in tree.body if isinstance(node, ast.ImportFrom) for one in node.names}
+            for node in ast.walk(tree):
+                if isinstance(node, ast.arg):
+                    self.assertNotIn(node.arg, names, (file.name, node.lineno))
+                if isinstance(node, ast.Name) and isinstance(node.ctx, ast.Store):
+                    self.assertNotIn(node.id, names, (file.name, node.lineno))
+
+    def test_no_two_files_draw_from_one_another(self):
+        drawn = {}
+        for name, node in walk(ast.ImportFrom):
+            drawn.setdefault(name, set()).add(node.module.split(".")[-1] + ".py")
+        done = set()
+        while True:
+            free = {file.name for file in FILES if drawn.get(file.name, set()) <= done} - done
+            if not free:
+                break
+            done |= free
+        self.assertEqual(done, {file.name for file in FILES})
+
     def test_methods_of_pythons_own_values(self):
         own = {"begun", "fill", "lay", "keep", "fleet", "ways"}
         for name, node in walk(ast.Attribute):
