@@ -95,7 +95,8 @@ class TheLists(unittest.TestCase):
 
     def test_no_number_but_a_refusal_is_below_0(self):
         looks = [
-            8, 9, 10, 11, 50, 12, 50, 13, 50, 14, 50, 15, 50, 16, 50, 17, 50, 1, 39, 18, 19, 20, 21, 22, 0, 23, 0, 24, 25,
+            8, 9, 10, 11, 50, 12, 50, 13, 50, 14, 50, 15, 50, 16, 50, 17, 50, 1, 39,
+            18, 19, 20, 21, 22, 0, 23, 0, 24, 25,
         ]
         for begun in ([0, 5, 10, 30], [0, 60, 1, 300], [0, 1, 60, 0]):
             for one in split(answers([*begun, 1, 10, *looks, 1, 0, *looks, 3, 3, *looks])):

@@ -1,4 +1,4 @@
-"""Point 2, as far as can, why, start, soonest and latest: cases reckoned by hand."""
+"""Point 2: can, why, start, soonest and latest, in cases reckoned by hand."""
 
 import unittest
 
